@@ -206,7 +206,7 @@ func TestAloneAtRandom(t *testing.T) {
 func TestStepsAtRandom(t *testing.T) {
 	random := rand.New(rand.NewSource(21))
 	seen := map[string]int{}
-	for range 30000 {
+	for range 45000 {
 		s := anyStore(random)
 		th := anyThread(random, s)
 		if random.Intn(50) == 0 {
@@ -218,6 +218,9 @@ func TestStepsAtRandom(t *testing.T) {
 			t.Fatalf("from %+v", s)
 		}
 		seen[fmt.Sprintf("kind %d, %d", th.Req.Kind, th.Pc)]++
+		if unfit(s.Grant, th.Req) {
+			seen[fmt.Sprintf("kind %d, %d, unfit", th.Req.Kind, th.Pc)]++
+		}
 		seen[fmt.Sprintf("kind %d, %d to %d, %t, %d", th.Req.Kind, th.Pc, want.Thread.Pc, want.Thread.Done, want.Thread.Resp.Code)]++
 	}
 	for kind := range 6 {
@@ -231,6 +234,7 @@ func TestStepsAtRandom(t *testing.T) {
 		"kind 2, 1 to 5, false, 0", "kind 2, 1 to 1, true, 0", "kind 2, 1 to 1, true, 6", "kind 2, 1 to 1, true, 7", "kind 2, 1 to 1, true, 8",
 		"kind 3, 1 to 4, false, 0", "kind 3, 1 to 2, false, 0", "kind 3, 2 to 5, false, 0", "kind 3, 2 to 2, true, 0", "kind 3, 2 to 2, true, 6",
 		"kind 3, 2 to 2, true, 7", "kind 3, 2 to 2, true, 8", "kind 3, 4 to 5, false, 0", "kind 3, 4 to 4, true, 8", "kind 4, 0 to 5, false, 0", "kind 4, 0 to 0, true, 0",
+		"kind 2, 1, unfit", "kind 2, 7, unfit", "kind 3, 1, unfit", "kind 3, 2, unfit", "kind 3, 4, unfit", "kind 3, 7, unfit",
 		"kind 5, 1 to 1, true, 0", "kind 5, 1 to 2, false, 0", "kind 5, 2 to 3, false, 0", "kind 5, 3 to 4, false, 0", "kind 5, 3 to 3, true, 0", "kind 5, 3 to 3, true, 6",
 	} {
 		if seen[what] < 10 {

@@ -122,10 +122,20 @@ func (w *slowRow) key() *impl.Key {
 	return nil
 }
 
-// word is the word of the request, if there is one.
+// next is the key of the request, if there is one that is a refresh.
+func (w *slowRow) next() *impl.Key {
+	if k := w.key(); k != nil && k.Refresh {
+		return k
+	}
+	return nil
+}
+
+// word is the word of the request, if there is one whose shade is the proof from behind.
 func (w *slowRow) word() *impl.Word {
+	shade := []byte(w.th.Req.Proof)
+	slices.Reverse(shade)
 	for i, word := range w.s.Grant.Words {
-		if word.No == w.th.Req.Code && word.Client == w.th.Req.Client {
+		if word.No == w.th.Req.Code && word.Client == w.th.Req.Client && word.Shade == string(shade) {
 			return &w.s.Grant.Words[i]
 		}
 	}
@@ -176,7 +186,7 @@ func (w *slowRow) redeem() {
 }
 
 func (w *slowRow) refresh() {
-	k := w.key()
+	k := w.next()
 	switch {
 	case w.th.Pc == 0:
 		w.first()
@@ -245,10 +255,7 @@ func (w *slowRow) kill() {
 		w.s.Ver = min(w.s.Ver+1, 1000000)
 		w.th.Pc++
 	case 7:
-		fam := w.th.Req.Code
-		if k := w.key(); k != nil {
-			fam = k.Fam
-		} else if w.word() == nil && !revoked {
+		if !revoked && w.word() == nil && w.next() == nil {
 			w.none()
 			return
 		}
@@ -256,6 +263,10 @@ func (w *slowRow) kill() {
 		if revoked {
 			w.grant()
 			return
+		}
+		fam := w.th.Req.Code
+		if k := w.next(); k != nil {
+			fam = k.Fam
 		}
 		w.s.Grant.Dead = append(w.s.Grant.Dead, fam)
 		slices.Sort(w.s.Grant.Dead)
@@ -278,7 +289,7 @@ func anyThread(random *rand.Rand, s impl.Store) impl.Thread {
 	if random.Intn(2) == 0 {
 		th.Ver = s.Ver
 	}
-	// What is cached is asked for more often so than it would be, and keys of the request's numbers are there.
+	// What is cached is asked for more often so than it would be, proofs do not fit, and keys of the request's numbers are there.
 	if n := len(s.Cache); n > 0 && th.Req.Kind == impl.RqAsk && random.Intn(2) == 0 {
 		e := s.Cache[random.Intn(n)]
 		th.Req.Token, th.Ver = e.Token, e.Ver
@@ -286,7 +297,10 @@ func anyThread(random *rand.Rand, s impl.Store) impl.Thread {
 			th.Req.Client = e.Client
 		}
 	}
-	if n := len(s.Grant.Keys); n > 0 && random.Intn(8) == 0 {
+	if th.Req.Kind == impl.RqRedeem && random.Intn(8) == 0 {
+		th.Req.Proof = []string{"a", "ab", "ba"}[random.Intn(3)]
+	}
+	if n := len(s.Grant.Keys); n > 0 && random.Intn(6) == 0 {
 		th.Req.No = max(1, s.Grant.Keys[random.Intn(n)].No/10)
 	}
 	if random.Intn(4) == 0 {
@@ -308,6 +322,20 @@ func anyReqOn(random *rand.Rand, s impl.Store) impl.Req {
 // honestPart is s without what of its cache is not so.
 func honestPart(s impl.Store) impl.Store {
 	return store(s, cache(slices.DeleteFunc(slices.Clone(s.Cache), func(e impl.Entry) bool { return !honestSlowly(store(s, cache(e))) })...))
+}
+
+// unfit tells whether there is a word or key of the request's number and client that does not fit all the same: it is of
+// another shade, or no refresh.
+func unfit(g impl.Grant, r impl.Req) bool {
+	switch r.Kind {
+	case impl.RqRedeem:
+		return slices.ContainsFunc(g.Words, func(w impl.Word) bool {
+			return w.No == r.Code && w.Client == r.Client && w.Shade != impl.Shade(r.Proof)
+		})
+	case impl.RqRefresh:
+		return slices.ContainsFunc(g.Keys, func(k impl.Key) bool { return k.No == r.Token && k.Client == r.Client && !k.Refresh })
+	}
+	return false
 }
 
 // doing is a text by which a thread can be told from others.

@@ -75,17 +75,16 @@ func TestStepRedeem(t *testing.T) {
 	s := twoCached()
 	r := redeem(30, 2, 20, "xyz")
 	given := impl.Resp{Token: 301, Next: 302}
-	gives := func(what string, s impl.Store, r impl.Req, till, next int64) {
+	gives := func(what string, s impl.Store, till, next int64) {
 		t.Helper()
 		ends(t, what, s, at(r, 1), given, store(s, granted(used(1), keys(newKeys(30, 2, 20, till, next)...))))
 	}
-	gives("good", s, r, 160, 400)
-	gives("good, while another one kills", store(s, version(7), locked(9)), r, 160, 400)
-	gives("good, at the end", store(s, granted(atTime(103))), r, 163, 403)
-	gives("another shade, which is not asked any more", s, redeem(30, 2, 20, "zyx"), 160, 400)
+	gives("good", s, 160, 400)
+	gives("good, while another one kills", store(s, version(7), locked(9)), 160, 400)
+	gives("good, at the end", store(s, granted(atTime(103))), 163, 403)
 	endsWith(t, "one late", store(s, granted(atTime(104))), at(r, 1), impl.ErrRange)
 	endsWith(t, "dead", store(s, granted(dead(20))), at(r, 1), impl.ErrRange)
-	gives("another one dead", store(s, granted(dead(10))), r, 160, 400)
+	gives("another one dead", store(s, granted(dead(10))), 160, 400)
 	stolen := store(s, granted(used(1)))
 	goes(t, "used", stolen, at(r, 1), 5, stolen)
 	worse := store(s, granted(used(1), dead(20), atTime(104), keys(newKeys(30, 2, 20, 160, 400)...)))
@@ -100,7 +99,25 @@ func TestStepRedeem(t *testing.T) {
 	endsWith(t, "another client's", s, at(redeem(30, 1, 20, "xyz"), 1), impl.ErrNone)
 	endsWith(t, "another client's, used", s, at(redeem(30, 2, 10, "ab"), 1), impl.ErrNone)
 	late := store(s, granted(atTime(impl.MaxTime), func(g *impl.Grant) { g.Words[1].Till = impl.MaxTime }))
-	gives("good, at the end of time", late, r, impl.MaxTime, impl.MaxTime)
+	gives("good, at the end of time", late, impl.MaxTime, impl.MaxTime)
+}
+
+// P5: a redeem needs the word whose shade is that of its proof at each step, whatever has become of the word.
+func TestStepOfOtherProof(t *testing.T) {
+	s := store(twoCached(), locked(30), version(7))
+	for _, change := range []func(*impl.Grant){atTime(100), used(1), dead(20), atTime(104), keys(newKeys(30, 2, 20, 160, 400)...)} {
+		s := store(s, granted(change))
+		for _, proof := range []string{"zyx", "z", "x", "xy", "yz", "xyzz", "xyzxyz", "xyzabcde", "axyz", "yxz", "ab"} {
+			for _, pc := range []int64{1, 7} {
+				endsWith(t, fmt.Sprint(proof, " at ", pc), s, at(redeem(30, 2, 20, proof), pc), impl.ErrNone)
+			}
+		}
+	}
+	alike := store(s, granted(func(g *impl.Grant) { g.Words[1].Shade = "zyyz" }))
+	r := redeem(30, 2, 20, "zyyz")
+	goes(t, "alike from both ends", alike, at(r, 7), 8, store(alike, granted(dead(20))))
+	given := store(alike, granted(used(1), keys(newKeys(30, 2, 20, 160, 400)...)))
+	ends(t, "alike from both ends, good", alike, at(r, 1), impl.Resp{Token: 301, Next: 302}, given)
 }
 
 // P5: whether there is room is asked at the first step alone.
@@ -168,15 +185,18 @@ func TestStepRefresh(t *testing.T) {
 	gives("good, at the end of time", late, impl.MaxTime, impl.MaxTime)
 }
 
-// P5: a key that is no refresh came to these steps by no first one; they ask of it what they say.
+// P5: a refresh needs a key that is a refresh at each step, whatever has become of the key.
 func TestStepRefreshOfKey(t *testing.T) {
-	s := twoCached()
-	r := refresh(30, 1, 51)
-	taken := store(s, granted(state(0, 2)))
-	goes(t, "1", s, at(r, 1), 2, s)
-	goes(t, "2, taken", taken, at(r, 2), 5, taken)
-	endsWith(t, "4, taken", taken, at(r, 4), impl.ErrRange)
-	ends(t, "2", s, at(r, 2), impl.Resp{Token: 301, Next: 302}, store(s, granted(state(0, 1), keys(newKeys(30, 1, 10, 160, 400)...))))
+	s := store(twoCached(), locked(30), version(7))
+	for _, change := range []func(*impl.Grant){state(0, 0), state(0, 1), state(0, 2), dead(10), atTime(121), keys(newKeys(30, 1, 10, 160, 400)...)} {
+		for _, worse := range []func(*impl.Grant){state(1, 0), state(1, 1), dead(10, 20)} {
+			s := store(s, granted(change, worse))
+			for _, pc := range []int64{1, 2, 4, 7} {
+				endsWith(t, fmt.Sprint("a key, at ", pc), s, at(refresh(30, 1, 51), pc), impl.ErrNone)
+				endsWith(t, fmt.Sprint("another key, at ", pc), s, at(refresh(30, 2, 71), pc), impl.ErrNone)
+			}
+		}
+	}
 }
 
 // P5, row "RqRevoke, 0": it ends where there is no such key, whatever has become of one that there is.
@@ -365,10 +385,8 @@ func TestStepKill(t *testing.T) {
 		then impl.Store
 	}{
 		{"a word", redeem(30, 2, 20, "xyz"), store(s, granted(dead(20)))},
-		{"a word, of another proof", redeem(30, 2, 20, "a"), store(s, granted(dead(20)))},
 		{"a used word", redeem(30, 1, 10, "ab"), store(s, granted(dead(10)))},
 		{"a refresh's family", refresh(30, 1, 52), store(s, granted(dead(10)))},
-		{"a key's family", refresh(30, 2, 71), store(s, granted(dead(20)))},
 		{"revoked", revoke(30, 1, 51), store(s, granted(state(0, 2)))},
 		{"revoked, all of them", revoke(30, 1, 52), store(s, granted(dead(10)))},
 		{"revoked, of another", revoke(30, 2, 71), store(s, granted(state(3, 2)))},
@@ -385,7 +403,8 @@ func TestStepKill(t *testing.T) {
 	goes(t, "one more of the dead, ahead", store(s, granted(dead(20))), at(refresh(30, 1, 52), 7), 8, both)
 	for what, r := range map[string]impl.Req{
 		"no such word": redeem(30, 2, 21, "xyz"), "another client's word": redeem(30, 1, 20, "xyz"),
-		"no such key": refresh(30, 1, 54), "another client's key": refresh(30, 2, 52),
+		"another proof": redeem(30, 2, 20, "a"), "another proof of a used word": redeem(30, 1, 10, "ba"),
+		"no such key": refresh(30, 1, 54), "another client's key": refresh(30, 2, 52), "a key that is no refresh": refresh(30, 2, 71),
 	} {
 		endsWith(t, what, s, at(r, 7), impl.ErrNone)
 	}
