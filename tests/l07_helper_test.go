@@ -261,12 +261,23 @@ func reqsOf(w impl.World) []impl.Req {
 	return l
 }
 
-// asIfInOrder fails the test where there is no order for what was told in w, where w is not right, or where what its cache
-// holds is not honest.
+// asIfInOrder fails the test where there is no order for what was told in w, where Linear and Order do not tell so, where two
+// won one word, where w is not right, or where what its cache holds is not honest.
 func asIfInOrder(t *testing.T, w impl.World) {
 	t.Helper()
-	if _, ok := orderOf(w.First, reqsOf(w), w.Log); !ok {
+	l := reqsOf(w)
+	order, ok := orderOf(w.First, l, w.Log)
+	if !ok || !impl.Linear(w.First, l, w.Log) {
 		t.Errorf("no order of %+v", w)
+	}
+	samePlace := func(at int64, want int) bool { return at == int64(want) }
+	if got := impl.Order(w.First, l, w.Log); !slices.EqualFunc(got, order, samePlace) {
+		t.Errorf("not the order %v, but %v, of %+v", order, got, w)
+	}
+	for _, r := range l {
+		if n := impl.Winners(l, w.Log, r.Code); n > 1 {
+			t.Errorf("%d won %d: %+v", n, r.Code, w)
+		}
 	}
 	if !impl.WorldRight(w) || !worldRightSlowly(w) || !impl.StoreRight(w.Store) || !impl.Honest(w.Store) || !honestSlowly(w.Store) {
 		t.Errorf("not right, or not honest: %+v", w)
